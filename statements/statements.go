@@ -1,0 +1,163 @@
+// Package statements knows what may stand where (P6), and which word breaks which rule (P7).
+package statements
+
+import (
+	"metaproof/api"
+	"metaproof/words"
+)
+
+// The kinds of the statement that is open.
+const (
+	none      = 0
+	labelled  = 1 // only its label was read
+	constants = 2
+	variables = 3
+	disjoint  = 4
+	floating  = 5
+	essential = 6
+	axiom     = 7
+	theorem   = 8
+)
+
+// Database is what the words so far have declared, and the statement that they left open.
+type Database struct {
+	names names
+
+	kind    int
+	symbols []string
+	inProof bool
+}
+
+// Open tells whether a statement or a block is open.
+func (d *Database) Open() bool {
+	return d.kind != none || d.names.inBlock()
+}
+
+// Take takes the next word, and tells the rule that it breaks, or 0. Behind a broken rule the database is of no use.
+func (d *Database) Take(word string) int {
+	if d.kind == none {
+		return d.takeFirst(word)
+	}
+	if d.kind == labelled {
+		return d.takeKeyword(word)
+	}
+	if word == "$." {
+		return d.end()
+	}
+	if word == "$=" && d.kind == theorem && !d.inProof {
+		return d.beginProof()
+	}
+	if words.HoldsDollar(word) {
+		return api.RKey
+	}
+	if d.inProof {
+		return 0
+	}
+	rule := d.checkSymbol(word)
+	if rule == 0 {
+		d.symbols = append(d.symbols, word)
+	}
+	return rule
+}
+
+func (d *Database) takeFirst(word string) int {
+	switch word {
+	case "${":
+		d.names.beginBlock()
+	case "$}":
+		if !d.names.inBlock() {
+			return api.RBlock
+		}
+		d.names.endBlock()
+	case "$c":
+		if d.names.inBlock() {
+			return api.RScope
+		}
+		d.kind = constants
+	case "$v":
+		d.kind = variables
+	case "$d":
+		d.kind = disjoint
+	case "$f", "$e", "$a", "$p":
+		return api.RNoLabel
+	default:
+		return d.takeLabel(word)
+	}
+	return 0
+}
+
+func (d *Database) takeLabel(word string) int {
+	if words.HoldsDollar(word) {
+		return api.RKey
+	}
+	if !isLabel(word) {
+		return api.RLabel
+	}
+	if d.names.isTaken(word) {
+		return api.RTaken
+	}
+	d.names.addLabel(word)
+	d.kind = labelled
+	return 0
+}
+
+func (d *Database) takeKeyword(word string) int {
+	switch word {
+	case "$f":
+		d.kind = floating
+	case "$e":
+		d.kind = essential
+	case "$a":
+		d.kind = axiom
+	case "$p":
+		d.kind = theorem
+	default:
+		return api.RNoKey
+	}
+	return 0
+}
+
+func (d *Database) beginProof() int {
+	if len(d.symbols) == 0 {
+		return api.RShort
+	}
+	d.inProof = true
+	return 0
+}
+
+func (d *Database) end() int {
+	if len(d.symbols) < d.leastSymbols() {
+		return api.RShort
+	}
+	if d.kind == theorem && !d.inProof {
+		return api.RNoProof
+	}
+	d.declare()
+	d.kind = none
+	d.symbols = nil
+	d.inProof = false
+	return 0
+}
+
+func (d *Database) leastSymbols() int {
+	if d.kind == disjoint || d.kind == floating {
+		return 2
+	}
+	return 1
+}
+
+// declare waits for the statement's end, as what it declares is active only behind it.
+func (d *Database) declare() {
+	for i := 0; i < len(d.symbols); i++ {
+		switch d.kind {
+		case constants:
+			d.names.addConstant(d.symbols[i])
+		case variables:
+			d.names.addVariable(d.symbols[i])
+		case floating:
+			if i == 1 {
+				d.names.addTyped(d.symbols[i])
+			}
+		}
+	}
+}
