@@ -3,14 +3,17 @@ package metaproof
 
 import (
 	"metaproof/api"
+	"metaproof/frames"
 	"metaproof/reader"
+	"metaproof/record"
 	"metaproof/table"
 )
 
-// Verifier is a table of files, and a report on one of them.
+// Verifier is a table of files, and a report on one of them: without a report the record is empty.
 type Verifier struct {
 	table     table.Table
 	hasReport bool
+	record    record.Record
 }
 
 // New makes a verifier: an empty table, no report.
@@ -20,7 +23,7 @@ func New() *Verifier { return &Verifier{} }
 func (v *Verifier) Load(files []api.File) api.Errno {
 	errno := v.table.Load(files)
 	if errno == api.OK {
-		v.hasReport = false
+		v.drop()
 	}
 	return errno
 }
@@ -29,9 +32,15 @@ func (v *Verifier) Load(files []api.File) api.Errno {
 func (v *Verifier) Put(name string, data string) api.Errno {
 	errno := v.table.Put(name, data)
 	if errno == api.OK {
-		v.hasReport = false
+		v.drop()
 	}
 	return errno
+}
+
+// drop drops the report: it tells of files that the table may have no more.
+func (v *Verifier) drop() {
+	v.hasReport = false
+	v.record = record.Record{}
 }
 
 // Verify reads the database from a file on (P4 to P9).
@@ -40,16 +49,27 @@ func (v *Verifier) Verify(root string) (api.Fault, api.Errno) {
 	if index < 0 {
 		return api.Fault{}, api.ErrRoot
 	}
-	fault := reader.Read(&v.table, index)
-	v.hasReport = fault.Rule == 0
-	if !v.hasReport {
+	v.drop()
+	statements, fault := reader.Read(&v.table, index)
+	if fault.Rule != 0 {
 		return fault, api.ErrFault
 	}
+	v.hasReport = true
+	v.record = statements
 	return api.Fault{}, api.OK
 }
 
 // Frame tells an assertion's frame (P10).
-func (v *Verifier) Frame(label string) ([]string, api.Errno) { return nil, v.state() }
+func (v *Verifier) Frame(label string) ([]string, api.Errno) {
+	if !v.hasReport {
+		return nil, api.ErrState
+	}
+	number := v.record.FindAssertion(label)
+	if number < 0 {
+		return nil, api.ErrLabel
+	}
+	return frames.Lines(&v.record, number), api.OK
+}
 
 // Rows tells the verdicts (P11 to P15).
 func (v *Verifier) Rows() []api.Row { return nil }

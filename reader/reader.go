@@ -3,6 +3,7 @@ package reader
 
 import (
 	"metaproof/api"
+	"metaproof/record"
 	"metaproof/statements"
 	"metaproof/table"
 	"metaproof/words"
@@ -15,10 +16,14 @@ type reader struct {
 	database statements.Database
 }
 
-// Read reads the database from the file at the place root on. The fault's rule is 0, if there is none.
-func Read(files *table.Table, root int) api.Fault {
+// Read reads the database from the file at the place root on. The fault's rule is 0, if there is none; else the record is empty.
+func Read(files *table.Table, root int) (record.Record, api.Fault) {
 	r := &reader{files: files}
-	return r.readFile(root)
+	fault := r.readFile(root)
+	if fault.Rule != 0 {
+		return record.Record{}, fault
+	}
+	return r.database.Record(), api.Fault{}
 }
 
 // readFile comes back to itself through include, but no more often than there are files: none is begun twice.

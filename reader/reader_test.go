@@ -1,6 +1,7 @@
 package reader
 
 import (
+	"strings"
 	"testing"
 
 	"metaproof/api"
@@ -15,7 +16,11 @@ func read(t *testing.T, data []string) api.Fault {
 			t.Fatalf("P3: Put = %d", e)
 		}
 	}
-	return Read(files, 0)
+	said, fault := Read(files, 0)
+	if fault.Rule != 0 && said.Count() != 0 {
+		t.Errorf("P9: %q: behind a fault the record has %d statements", data, said.Count())
+	}
+	return fault
 }
 
 func fault(rule int, file string, line, col int) api.Fault {
@@ -94,8 +99,29 @@ func TestFirst(t *testing.T) {
 
 func TestNoSuchFile(t *testing.T) {
 	for _, index := range []int{-1, api.MaxFiles, 100} {
-		if got := Read(&table.Table{}, index); got != (api.Fault{}) {
-			t.Errorf("P1: Read of the file %d: %+v", index, got)
+		if said, got := Read(&table.Table{}, index); got != (api.Fault{}) || said.Count() != 0 {
+			t.Errorf("P1: Read of the file %d: %+v, %d statements", index, got, said.Count())
 		}
+	}
+}
+
+func TestOrder(t *testing.T) {
+	files := &table.Table{}
+	files.Put("m", "$c a $. l1 $a a $. $[ n $] l2 $a a b $. $[ n $] l3 $p a $= ? $.")
+	files.Put("n", "$c b $. k1 $a b $. $[ o $] k2 $a b $.")
+	files.Put("o", "${ $v v $. f $f a v $. j $a a v $. $} $[ m $]")
+	said, fault := Read(files, 0)
+	if fault.Rule != 0 {
+		t.Fatalf("P5: %+v", fault)
+	}
+	var labels []string
+	for n := 0; n < said.Count(); n++ {
+		labels = append(labels, said.Statement(n).Label)
+	}
+	if got := strings.Join(labels, " "); got != "l1 k1 f j k2 l2 l3" {
+		t.Errorf("P5: the order of the statements: %s", got)
+	}
+	if !said.Holds(2, 3) || said.Holds(2, 4) {
+		t.Errorf("P6: f is active at j alone, but %t, %t", said.Holds(2, 3), said.Holds(2, 4))
 	}
 }

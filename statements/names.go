@@ -40,14 +40,16 @@ func (n *names) addLabel(word string) {
 	n.labels = append(n.labels, word)
 }
 
-func (n *names) addConstant(word string) {
-	n.constants = append(n.constants, word)
+func (n *names) addConstants(words []string) {
+	n.constants = append(n.constants, words...)
 }
 
-func (n *names) addVariable(word string) {
-	n.active = append(n.active, word)
-	if !has(n.variables, word) {
-		n.variables = append(n.variables, word)
+func (n *names) addVariables(words []string) {
+	n.active = append(n.active, words...)
+	for i := 0; i < len(words); i++ {
+		if !has(n.variables, words[i]) {
+			n.variables = append(n.variables, words[i])
+		}
 	}
 }
 

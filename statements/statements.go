@@ -3,29 +3,37 @@ package statements
 
 import (
 	"metaproof/api"
+	"metaproof/record"
 	"metaproof/words"
 )
 
-// The kinds of the statement that is open.
+// The kinds of the statement that is open: those of the record, and more.
 const (
 	none      = 0
-	labelled  = 1 // only its label was read
-	constants = 2
-	variables = 3
-	disjoint  = 4
-	floating  = 5
-	essential = 6
-	axiom     = 7
-	theorem   = 8
+	disjoint  = record.Disjoint
+	floating  = record.Floating
+	essential = record.Essential
+	axiom     = record.Axiom
+	theorem   = record.Theorem
+	labelled  = 6 // only its label was read
+	constants = 7
+	variables = 8
 )
 
 // Database is what the words so far have declared, and the statement that they left open.
 type Database struct {
-	names names
+	names  names
+	record record.Record
 
 	kind    int
+	label   string
 	symbols []string
 	inProof bool
+}
+
+// Record tells what the statements said. It is the caller's when the database takes no more words.
+func (d *Database) Record() record.Record {
+	return d.record
 }
 
 // Open tells whether a statement or a block is open.
@@ -64,11 +72,13 @@ func (d *Database) takeFirst(word string) int {
 	switch word {
 	case "${":
 		d.names.beginBlock()
+		d.record.BeginBlock()
 	case "$}":
 		if !d.names.inBlock() {
 			return api.RBlock
 		}
 		d.names.endBlock()
+		d.record.EndBlock()
 	case "$c":
 		if d.names.inBlock() {
 			return api.RScope
@@ -97,6 +107,7 @@ func (d *Database) takeLabel(word string) int {
 		return api.RTaken
 	}
 	d.names.addLabel(word)
+	d.label = word
 	d.kind = labelled
 	return 0
 }
@@ -134,6 +145,7 @@ func (d *Database) end() int {
 	}
 	d.declare()
 	d.kind = none
+	d.label = ""
 	d.symbols = nil
 	d.inProof = false
 	return 0
@@ -148,16 +160,15 @@ func (d *Database) leastSymbols() int {
 
 // declare waits for the statement's end, as what it declares is active only behind it.
 func (d *Database) declare() {
-	for i := 0; i < len(d.symbols); i++ {
-		switch d.kind {
-		case constants:
-			d.names.addConstant(d.symbols[i])
-		case variables:
-			d.names.addVariable(d.symbols[i])
-		case floating:
-			if i == 1 {
-				d.names.addTyped(d.symbols[i])
-			}
+	switch d.kind {
+	case constants:
+		d.names.addConstants(d.symbols)
+	case variables:
+		d.names.addVariables(d.symbols)
+	default:
+		if d.kind == floating && len(d.symbols) > 1 {
+			d.names.addTyped(d.symbols[1])
 		}
+		d.record.Add(d.kind, d.label, d.symbols)
 	}
 }

@@ -145,3 +145,32 @@ func TestActive(t *testing.T) {
 		{"m $a a $. ${ n $a a $. $} o $p a $= n $.", "closed"},
 	})
 }
+
+// said tells what was recorded, and of each statement up to which one it holds.
+func said(t *testing.T, text string) []string {
+	d := &Database{}
+	for _, word := range strings.Fields(text) {
+		if rule := d.Take(word); rule != 0 {
+			t.Fatalf("P7: %q: %s breaks %d", text, word, rule)
+		}
+	}
+	r := d.Record()
+	var lines []string
+	for n := 0; n < r.Count(); n++ {
+		last := n
+		for at := n + 1; at < r.Count() && r.Holds(n, at); at++ {
+			last = at
+		}
+		s := r.Statement(n)
+		lines = append(lines, fmt.Sprintf("%s %d %s %d", s.Label, s.Kind, strings.Join(s.Symbols, " "), last))
+	}
+	return lines
+}
+
+func TestRecord(t *testing.T) {
+	got := said(t, "$c a b $. $v x y $. fx $f a x $. $d x y $. ${ fy $f b y $. e $e a x b $. l $a a y $. ${ $v z $. $d z x y $. k $p b x $= x ( ? $. $} j $a a $. $} i $p a $= $.")
+	want := []string{"fx 2 a x 8", " 1 x y 8", "fy 2 b y 7", "e 3 a x b 7", "l 4 a y 8", " 1 z x y 6", "k 5 b x 8", "j 4 a 8", "i 5 a 8"}
+	if strings.Join(got, "|") != strings.Join(want, "|") {
+		t.Errorf("P6: recorded: %q, want %q", got, want)
+	}
+}
