@@ -36,6 +36,11 @@ func TestHolds(t *testing.T) {
 			t.Errorf("P6: at %d there hold %v, want %v", at, got, holding)
 		}
 	}
+	for _, number := range []int{-1, r.Count(), r.Count() + 1} {
+		if r.Holds(number, 100) {
+			t.Errorf("P1: statement %d, which is not there, holds", number)
+		}
+	}
 }
 
 func TestBlocks(t *testing.T) {
