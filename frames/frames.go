@@ -1,7 +1,10 @@
 // Package frames tells what an assertion asks for: its mandatory hypotheses and pairs (P10).
 package frames
 
-import "metaproof/record"
+import (
+	"metaproof/apart"
+	"metaproof/record"
+)
 
 // Pair is two variables that must be kept apart.
 type Pair struct {
@@ -16,12 +19,13 @@ type Frame struct {
 
 // Of tells the frame of the assertion of a number.
 func Of(r *record.Record, number int) Frame {
-	hypotheses := hypothesesOf(r, number)
+	hypotheses := Hypotheses(r, number)
 	variables := variablesOf(r, hypotheses)
 	return Frame{Hypotheses: hypotheses, Pairs: pairsOf(r, number, variables)}
 }
 
-func hypothesesOf(r *record.Record, number int) []int {
+// Hypotheses tells the mandatory hypotheses of the assertion of a number, by their numbers.
+func Hypotheses(r *record.Record, number int) []int {
 	var hypotheses []int
 	symbols := symbolsOf(r, number)
 	for n := 0; n < r.Count(); n++ {
@@ -30,6 +34,17 @@ func hypothesesOf(r *record.Record, number int) []int {
 		}
 	}
 	return hypotheses
+}
+
+// AllHypotheses tells by its number the mandatory hypotheses of each assertion; of the other statements it tells none.
+func AllHypotheses(r *record.Record) [][]int {
+	all := make([][]int, r.Count())
+	for n := 0; n < len(all); n++ {
+		if r.Statement(n).IsAssertion() {
+			all[n] = Hypotheses(r, n)
+		}
+	}
+	return all
 }
 
 // symbolsOf has the symbols of the active $e too: their variables are as mandatory as the assertion's own.
@@ -47,7 +62,7 @@ func symbolsOf(r *record.Record, number int) []string {
 
 func isMandatory(hypothesis record.Statement, symbols []string) bool {
 	if hypothesis.Kind == record.Floating {
-		return position(symbols, hypothesis.Variable()) >= 0
+		return has(symbols, hypothesis.Variable())
 	}
 	return hypothesis.Kind == record.Essential
 }
@@ -63,12 +78,24 @@ func variablesOf(r *record.Record, hypotheses []int) []string {
 	return variables
 }
 
-// position tells where the word stands first in the list, or -1.
-func position(list []string, word string) int {
-	for i := 0; i < len(list); i++ {
-		if list[i] == word {
-			return i
+func pairsOf(r *record.Record, number int, variables []string) []Pair {
+	table := apart.At(r, number, variables)
+	var pairs []Pair
+	for i := 0; i < len(variables); i++ {
+		for j := i + 1; j < len(variables); j++ {
+			if table.Apart(i, j) {
+				pairs = append(pairs, Pair{One: variables[i], Other: variables[j]})
+			}
 		}
 	}
-	return -1
+	return pairs
+}
+
+func has(list []string, word string) bool {
+	for i := 0; i < len(list); i++ {
+		if list[i] == word {
+			return true
+		}
+	}
+	return false
 }

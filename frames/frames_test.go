@@ -6,6 +6,7 @@ import (
 	"strings"
 	"testing"
 
+	"metaproof/api"
 	"metaproof/record"
 	"metaproof/statements"
 )
@@ -14,7 +15,7 @@ func read(t *testing.T, text string) *record.Record {
 	t.Helper()
 	d := &statements.Database{}
 	for i, word := range strings.Fields(text) {
-		if rule := d.Take(word); rule != 0 {
+		if rule := d.Take(word, api.Place{}); rule != 0 {
 			t.Fatalf("P7: %q: word %d, %s, breaks %d", text, i+1, word, rule)
 		}
 	}
@@ -112,6 +113,17 @@ func TestFrame(t *testing.T) {
 	for _, number := range []int{-1, 6, 1000} {
 		Of(r, number)
 		Lines(r, number)
+	}
+}
+
+func TestAllHypotheses(t *testing.T) {
+	r := read(t, "$c w $. $v p q $. fp $f w p $. $d p q $. a $a w p $. fq $f w q $. ${ e $e w $. b $p w q p $= $. $} c $a w $.")
+	want := [][]int{nil, nil, {0}, nil, nil, {0, 3, 4}, nil}
+	if got := AllHypotheses(r); !reflect.DeepEqual(got, want) {
+		t.Errorf("P10: the mandatory hypotheses are %v, want %v", got, want)
+	}
+	if got := AllHypotheses(&record.Record{}); len(got) != 0 {
+		t.Errorf("P10: the mandatory hypotheses of nothing are %v", got)
 	}
 }
 

@@ -3,17 +3,15 @@ package metaproof
 
 import (
 	"metaproof/api"
-	"metaproof/frames"
-	"metaproof/reader"
-	"metaproof/record"
+	"metaproof/report"
 	"metaproof/table"
 )
 
-// Verifier is a table of files, and a report on one of them: without a report the record is empty.
+// Verifier is a table of files, and the report on the database that was read last: an empty one, if there is no report.
 type Verifier struct {
 	table     table.Table
 	hasReport bool
-	record    record.Record
+	report    report.Report
 }
 
 // New makes a verifier: an empty table, no report.
@@ -40,53 +38,73 @@ func (v *Verifier) Put(name string, data string) api.Errno {
 // drop drops the report: it tells of files that the table may have no more.
 func (v *Verifier) drop() {
 	v.hasReport = false
-	v.record = record.Record{}
+	v.report = report.Report{}
 }
 
-// Verify reads the database from a file on (P4 to P9).
+// Verify reads the database from a file on, and judges its proofs (P4 to P9, P11 to P14).
 func (v *Verifier) Verify(root string) (api.Fault, api.Errno) {
 	index := v.table.Find(root)
 	if index < 0 {
 		return api.Fault{}, api.ErrRoot
 	}
 	v.drop()
-	statements, fault := reader.Read(&v.table, index)
+	made, fault := report.On(&v.table, index)
 	if fault.Rule != 0 {
 		return fault, api.ErrFault
 	}
 	v.hasReport = true
-	v.record = statements
+	v.report = made
 	return api.Fault{}, api.OK
+}
+
+// Rows tells the verdicts (P11 to P15).
+func (v *Verifier) Rows() []api.Row {
+	return v.report.Rows()
 }
 
 // Frame tells an assertion's frame (P10).
 func (v *Verifier) Frame(label string) ([]string, api.Errno) {
+	number, errno := v.find(label)
+	if errno != api.OK {
+		return nil, errno
+	}
+	return v.report.Frame(number), api.OK
+}
+
+// Uses tells on what a theorem rests (P16).
+func (v *Verifier) Uses(label string) ([]string, []string, api.Errno) {
+	number, errno := v.find(label)
+	if errno != api.OK {
+		return nil, nil, errno
+	}
+	return v.report.Uses(number)
+}
+
+// Steps tells a proof's labels, written out (P17).
+func (v *Verifier) Steps(label string) ([]string, api.Errno) {
+	number, errno := v.find(label)
+	if errno != api.OK {
+		return nil, errno
+	}
+	return v.report.Steps(number)
+}
+
+// Parse tells an assertion's syntax tree (P18).
+func (v *Verifier) Parse(label string, code string) ([]string, api.Errno) {
 	if !v.hasReport {
 		return nil, api.ErrState
 	}
-	number := v.record.FindAssertion(label)
-	if number < 0 {
-		return nil, api.ErrLabel
-	}
-	return frames.Lines(&v.record, number), api.OK
+	return nil, api.OK
 }
 
-// Rows tells the verdicts (P11 to P15).
-func (v *Verifier) Rows() []api.Row { return nil }
-
-// Uses tells on what a theorem rests (P16).
-func (v *Verifier) Uses(label string) ([]string, []string, api.Errno) { return nil, nil, v.state() }
-
-// Steps tells a proof's labels, written out (P17).
-func (v *Verifier) Steps(label string) ([]string, api.Errno) { return nil, v.state() }
-
-// Parse tells an assertion's syntax tree (P18).
-func (v *Verifier) Parse(label string, code string) ([]string, api.Errno) { return nil, v.state() }
-
-// state: without a report there is nothing that the calls on it could tell.
-func (v *Verifier) state() api.Errno {
+// find tells the number of an assertion in the report; or that there is no report, or no such assertion.
+func (v *Verifier) find(label string) (int, api.Errno) {
 	if !v.hasReport {
-		return api.ErrState
+		return 0, api.ErrState
 	}
-	return api.OK
+	number := v.report.Find(label)
+	if number < 0 {
+		return 0, api.ErrLabel
+	}
+	return number, api.OK
 }

@@ -6,6 +6,7 @@ import (
 	"testing"
 
 	"metaproof/api"
+	"metaproof/report"
 )
 
 func load(t *testing.T, files ...api.File) *Verifier {
@@ -27,8 +28,8 @@ func reported(t *testing.T, v *Verifier) bool {
 	_, steps := v.Steps("l")
 	_, parse := v.Parse("l", "c")
 	none := frame == api.ErrState
-	if none && v.record.Count() != 0 {
-		t.Errorf("P3: a dropped report is kept: %d statements", v.record.Count())
+	if none && (v.Rows() != nil || !reflect.DeepEqual(v.report, report.Report{})) {
+		t.Errorf("P3: a dropped report is kept: %v", v.Rows())
 	}
 	if (uses == api.ErrState) != none || (steps == api.ErrState) != none || (parse == api.ErrState) != none {
 		t.Errorf("P9: the calls tell different states: %d %d %d %d", frame, uses, steps, parse)

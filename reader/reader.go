@@ -51,7 +51,7 @@ func (r *reader) readWord(scanner *words.Scanner, item words.Item) api.Fault {
 	if item.Text == "$[" {
 		return r.include(scanner, item.At)
 	}
-	rule := r.database.Take(item.Text)
+	rule := r.database.Take(item.Text, item.At)
 	if rule != 0 {
 		return api.Fault{Rule: rule, At: item.At}
 	}

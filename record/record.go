@@ -1,6 +1,8 @@
 // Package record keeps what a database said, statement by statement, and how long each holds (P6).
 package record
 
+import "metaproof/api"
+
 // The kinds of statement that are kept: the others are of use only while the database is read.
 const (
 	Disjoint  = 1
@@ -10,11 +12,19 @@ const (
 	Theorem   = 5
 )
 
+// Word is a word of a proof, and its place.
+type Word struct {
+	Text string
+	At   api.Place
+}
+
 // Statement is a $d (without a label), $f, $e, $a or $p.
 type Statement struct {
 	Kind    int
 	Label   string
-	Symbols []string // the typecode among them
+	Symbols []string  // the typecode among them
+	Proof   []Word    // of a $p: what stands behind its `$=`
+	End     api.Place // of its `$.`
 
 	until int // the number of the first statement behind its block; 0, if it holds for ever
 }
@@ -25,11 +35,16 @@ type Record struct {
 	blocks     []int // of each open block, the innermost last: the number of its first statement
 }
 
-// Add lays a statement behind the others. The list of symbols stays the caller's.
-func (r *Record) Add(kind int, label string, symbols []string) {
-	own := make([]string, len(symbols))
-	copy(own, symbols)
-	r.statements = append(r.statements, Statement{Kind: kind, Label: label, Symbols: own})
+// Add lays a statement behind the others, in the innermost open block. Its lists stay the caller's.
+func (r *Record) Add(statement Statement) {
+	symbols := make([]string, len(statement.Symbols))
+	copy(symbols, statement.Symbols)
+	proof := make([]Word, len(statement.Proof))
+	copy(proof, statement.Proof)
+	statement.Symbols = symbols
+	statement.Proof = proof
+	statement.until = 0
+	r.statements = append(r.statements, statement)
 }
 
 // BeginBlock begins a block within those that are open.
@@ -84,9 +99,27 @@ func (r *Record) FindAssertion(label string) int {
 	return -1
 }
 
+// FindHolding tells the number of the statement that has this label and holds at another, or -1.
+func (r *Record) FindHolding(label string, at int) int {
+	for n := 0; n < len(r.statements); n++ {
+		if r.statements[n].Label == label && r.statements[n].Kind != Disjoint && r.Holds(n, at) {
+			return n
+		}
+	}
+	return -1
+}
+
 // IsAssertion tells whether it is a $a or $p.
 func (s Statement) IsAssertion() bool {
 	return s.Kind == Axiom || s.Kind == Theorem
+}
+
+// Typecode tells the first symbol.
+func (s Statement) Typecode() string {
+	if len(s.Symbols) == 0 {
+		return ""
+	}
+	return s.Symbols[0]
 }
 
 // Variable tells what a $f types; of the other kinds nothing.

@@ -29,6 +29,7 @@ type Database struct {
 	label   string
 	symbols []string
 	inProof bool
+	proof   []record.Word
 }
 
 // Record tells what the statements said. It is the caller's when the database takes no more words.
@@ -41,8 +42,8 @@ func (d *Database) Open() bool {
 	return d.kind != none || d.names.inBlock()
 }
 
-// Take takes the next word, and tells the rule that it breaks, or 0. Behind a broken rule the database is of no use.
-func (d *Database) Take(word string) int {
+// Take takes the next word and its place, and tells the rule that it breaks, or 0. Behind a broken rule the database is of no use.
+func (d *Database) Take(word string, at api.Place) int {
 	if d.kind == none {
 		return d.takeFirst(word)
 	}
@@ -50,7 +51,7 @@ func (d *Database) Take(word string) int {
 		return d.takeKeyword(word)
 	}
 	if word == "$." {
-		return d.end()
+		return d.end(at)
 	}
 	if word == "$=" && d.kind == theorem && !d.inProof {
 		return d.beginProof()
@@ -59,6 +60,7 @@ func (d *Database) Take(word string) int {
 		return api.RKey
 	}
 	if d.inProof {
+		d.proof = append(d.proof, record.Word{Text: word, At: at})
 		return 0
 	}
 	rule := d.checkSymbol(word)
@@ -136,18 +138,19 @@ func (d *Database) beginProof() int {
 	return 0
 }
 
-func (d *Database) end() int {
+func (d *Database) end(at api.Place) int {
 	if len(d.symbols) < d.leastSymbols() {
 		return api.RShort
 	}
 	if d.kind == theorem && !d.inProof {
 		return api.RNoProof
 	}
-	d.declare()
+	d.declare(at)
 	d.kind = none
 	d.label = ""
 	d.symbols = nil
 	d.inProof = false
+	d.proof = nil
 	return 0
 }
 
@@ -159,7 +162,7 @@ func (d *Database) leastSymbols() int {
 }
 
 // declare waits for the statement's end, as what it declares is active only behind it.
-func (d *Database) declare() {
+func (d *Database) declare(end api.Place) {
 	switch d.kind {
 	case constants:
 		d.names.addConstants(d.symbols)
@@ -169,6 +172,6 @@ func (d *Database) declare() {
 		if d.kind == floating && len(d.symbols) > 1 {
 			d.names.addTyped(d.symbols[1])
 		}
-		d.record.Add(d.kind, d.label, d.symbols)
+		d.record.Add(record.Statement{Kind: d.kind, Label: d.label, Symbols: d.symbols, Proof: d.proof, End: end})
 	}
 }

@@ -2,10 +2,12 @@ package statements
 
 import (
 	"fmt"
+	"reflect"
 	"strings"
 	"testing"
 
 	"metaproof/api"
+	"metaproof/record"
 )
 
 // base: a and b are constants; x, y, z variables, x and y of them with a $f; l is a label, dead a variable that is active no more.
@@ -15,7 +17,7 @@ const base = "$c a b $. $v x y z $. fx $f a x $. fy $f b y $. l $a a $. ${ $v de
 func broken(t *testing.T, text string) string {
 	d := &Database{}
 	for _, word := range strings.Fields(base) {
-		if rule := d.Take(word); rule != 0 {
+		if rule := d.Take(word, api.Place{}); rule != 0 {
 			t.Fatalf("P7: base: %s breaks %d", word, rule)
 		}
 	}
@@ -23,7 +25,7 @@ func broken(t *testing.T, text string) string {
 		t.Fatalf("P6: behind base a statement is open")
 	}
 	for i, word := range strings.Fields(text) {
-		if rule := d.Take(word); rule != 0 {
+		if rule := d.Take(word, api.Place{}); rule != 0 {
 			return fmt.Sprintf("%d R%d", i+1, rule)
 		}
 	}
@@ -150,7 +152,7 @@ func TestActive(t *testing.T) {
 func said(t *testing.T, text string) []string {
 	d := &Database{}
 	for _, word := range strings.Fields(text) {
-		if rule := d.Take(word); rule != 0 {
+		if rule := d.Take(word, api.Place{}); rule != 0 {
 			t.Fatalf("P7: %q: %s breaks %d", text, word, rule)
 		}
 	}
@@ -172,5 +174,26 @@ func TestRecord(t *testing.T) {
 	want := []string{"fx 2 a x 8", " 1 x y 8", "fy 2 b y 7", "e 3 a x b 7", "l 4 a y 8", " 1 z x y 6", "k 5 b x 8", "j 4 a 8", "i 5 a 8"}
 	if strings.Join(got, "|") != strings.Join(want, "|") {
 		t.Errorf("P6: recorded: %q, want %q", got, want)
+	}
+}
+
+func TestProofWords(t *testing.T) {
+	d := &Database{}
+	place := func(i int) api.Place { return api.Place{File: "m", Line: i, Col: 2 * i} }
+	for i, word := range strings.Fields("$c a $. l $p a $= x l ( a ? $. k $p a $= $. $v v $. j $a a $. i $p a $= ) $.") {
+		if rule := d.Take(word, place(i)); rule != 0 {
+			t.Fatalf("P7: word %d, %s, breaks %d", i, word, rule)
+		}
+	}
+	r := d.Record()
+	for n, want := range []record.Statement{
+		{Proof: []record.Word{{Text: "x", At: place(7)}, {Text: "l", At: place(8)}, {Text: "(", At: place(9)}, {Text: "a", At: place(10)}, {Text: "?", At: place(11)}}, End: place(12)},
+		{Proof: []record.Word{}, End: place(17)},
+		{Proof: []record.Word{}, End: place(24)},
+		{Proof: []record.Word{{Text: ")", At: place(29)}}, End: place(30)},
+	} {
+		if got := r.Statement(n); !reflect.DeepEqual(got.Proof, want.Proof) || got.End != want.End {
+			t.Errorf("P15: statement %d has the proof %v, ends at %v; want %v, %v", n, got.Proof, got.End, want.Proof, want.End)
+		}
 	}
 }
