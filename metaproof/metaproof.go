@@ -91,10 +91,11 @@ func (v *Verifier) Steps(label string) ([]string, api.Errno) {
 
 // Parse tells an assertion's syntax tree (P18).
 func (v *Verifier) Parse(label string, code string) ([]string, api.Errno) {
-	if !v.hasReport {
-		return nil, api.ErrState
+	number, errno := v.find(label)
+	if errno != api.OK {
+		return nil, errno
 	}
-	return nil, api.OK
+	return v.report.Parse(number, code)
 }
 
 // find tells the number of an assertion in the report; or that there is no report, or no such assertion.

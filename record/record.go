@@ -122,6 +122,14 @@ func (s Statement) Typecode() string {
 	return s.Symbols[0]
 }
 
+// Rest tells the symbols behind the typecode.
+func (s Statement) Rest() []string {
+	if len(s.Symbols) == 0 {
+		return nil
+	}
+	return s.Symbols[1:]
+}
+
 // Variable tells what a $f types; of the other kinds nothing.
 func (s Statement) Variable() string {
 	if s.Kind != Floating || len(s.Symbols) < 2 {

@@ -120,6 +120,15 @@ func TestStatement(t *testing.T) {
 	if got := (Statement{Kind: Axiom, Symbols: []string{"w", "x"}}).Typecode(); got != "w" {
 		t.Errorf("P6: the typecode is %q", got)
 	}
+	if got := (Statement{Kind: Axiom, Symbols: []string{"w", "x", "w"}}).Rest(); !reflect.DeepEqual(got, []string{"x", "w"}) {
+		t.Errorf("P6: behind the typecode stands %v", got)
+	}
+	if got := (Statement{Kind: Axiom, Symbols: []string{"w"}}).Rest(); len(got) != 0 {
+		t.Errorf("P6: behind a typecode alone stands %v", got)
+	}
+	if got := (Statement{}).Rest(); got != nil {
+		t.Errorf("P1: a statement without symbols has %v", got)
+	}
 	if got := (Statement{}).Typecode(); got != "" {
 		t.Errorf("P1: a statement without symbols has the typecode %q", got)
 	}

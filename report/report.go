@@ -1,4 +1,4 @@
-// Package report tells what is known of a well-formed database: a verdict on each assertion, and what follows from it (P14 to P17).
+// Package report tells what is known of a well-formed database: a verdict on each assertion, and what follows from it (P14 to P18).
 package report
 
 import (

@@ -223,6 +223,30 @@ func TestManySteps(t *testing.T) {
 	}
 }
 
+func parse(t *testing.T, r *Report, label, code string) string {
+	t.Helper()
+	list, e := r.Parse(r.Find(label), code)
+	if cap(list) != len(list) || (len(list) == 0) != (e != api.OK) || e != api.OK && list != nil {
+		t.Errorf("P2: Parse(%q, %q) = %#v, %d", label, code, list, e)
+	}
+	if e != api.OK {
+		return fmt.Sprintf("E%d", e)
+	}
+	return strings.Join(list, " ")
+}
+
+func TestParse(t *testing.T) {
+	r := on(t, base+"t $a |- ( p > ( q > r ) ) $. u $p |- ( q > p ) $= wq wp wi $. n $a w > p $. y $a |- > > > > > > > > > q $. z $a |- > > > > > > > > > > q $. e $a ( $. f $a |- $. v $a w p $. x $a |- q $.")
+	for _, c := range [][3]string{
+		{"t", "w", "wp wq wr wi wi"}, {"t", "|-", "E10"}, {"u", "w", "wq wp wi"}, {"u", "none", "E10"}, {"wi", "w", "E10"},
+		{"x", "w", "E11"}, {"x", "(", "E10"}, {"y", "w", "wq n n n n n n n n n"}, {"y", "|-", "E10"}, {"z", "w", "E3"}, {"z", "none", "E3"}, {"f", "(", "e"},
+	} {
+		if got := parse(t, r, c[0], c[1]); got != c[2] {
+			t.Errorf("P18: %s to %s is %s, want %s", c[0], c[1], got, c[2])
+		}
+	}
+}
+
 func TestNoSuchAssertion(t *testing.T) {
 	r := on(t, base+"t $p w p $= wp $.")
 	for number := -2; number < r.record.Count()+2; number++ {
@@ -230,6 +254,11 @@ func TestNoSuchAssertion(t *testing.T) {
 		list, f := r.Steps(number)
 		if !r.record.Statement(number).IsAssertion() && (r.verdict(number) != 0 || axioms != nil || open != nil || e != api.OK || list != nil || f != api.ErrVerdict) {
 			t.Errorf("P1: statement %d: %q, %q, %d, %q, %d", number, axioms, open, e, list, f)
+		}
+	}
+	for _, number := range []int{-1, r.record.Count() + 1} {
+		if tree, e := r.Parse(number, "|-"); tree != nil || e != api.ErrNone && e != api.ErrTwo {
+			t.Errorf("P1: statement %d: %q, %d", number, tree, e)
 		}
 	}
 	empty := &Report{}
@@ -241,17 +270,18 @@ func TestNoSuchAssertion(t *testing.T) {
 func TestFresh(t *testing.T) {
 	r := on(t, base+"t $p w ( p > q ) $= wp wq wi $. u $p w p $= ? $. v $p w p $= wp u $.")
 	told := func() string {
-		return rows(r) + uses(t, r, "t") + uses(t, r, "v") + steps(t, r, "t") + strings.Join(r.Frame(r.Find("t")), " ")
+		return rows(r) + uses(t, r, "t") + uses(t, r, "v") + steps(t, r, "t") + strings.Join(r.Frame(r.Find("t")), " ") + parse(t, r, "t", "w")
 	}
 	before := told()
 	list := r.Rows()
 	axioms, open, _ := r.Uses(r.Find("v"))
 	labels, _ := r.Steps(r.Find("t"))
 	frame := r.Frame(r.Find("t"))
+	tree, _ := r.Parse(r.Find("t"), "w")
 	for i := range list {
 		list[i] = api.Row{Label: "mine", Verdict: 1}
 	}
-	for _, mine := range [][]string{axioms, open, labels, frame} {
+	for _, mine := range [][]string{axioms, open, labels, frame, tree} {
 		for i := range mine {
 			mine[i] = "mine"
 		}
